@@ -1,0 +1,1 @@
+"""Formkeeper: a registry of forms of data."""
