@@ -174,6 +174,15 @@ class JsonReader:
         return token == bracket
 
 
+def depth_of(value):
+    """Returns the depth of a JSON value."""
+    if isinstance(value, list):
+        return 1 + max([depth_of(item) for item in value], default=0)
+    if isinstance(value, dict):
+        return 1 + max([depth_of(value[key]) for key in value], default=0)
+    return 0
+
+
 def parse_json(text):
     """Returns the JSON value of a text."""
     return JsonReader(text).read_whole()
