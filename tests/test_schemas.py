@@ -392,6 +392,16 @@ class DefinitionsTest(SchemaTest):
             self.assert_invalid({"kind": "record", "name": "R", "fields": fields})
         self.assert_invalid({"kind": "record", "name": "R"})
 
+    def test_the_kind_of_a_field_stands_for_its_shape_alone(self):
+        """Other keys of a field do not belong to its shape."""
+        self.assert_invalid(record("R", field("a", "array", items="int")))
+        self.assert_invalid(record("R", field("a", "map", values="int")))
+        self.assert_invalid(record("R", field("a", "fixed", size=3)))
+        self.assert_invalid(record("R", field("a", "choice", symbols=["A"])))
+        self.assert_invalid(record("R", field("a", "record", fields=[])))
+        self.assert_definition(("record", "R", (("a", ("array", ("int",)), None, ()),), ()),
+                               record("R", field("a", array("int"), items="string")))
+
     def test_fields_with_a_name_or_an_alias_in_common(self):
         def two(first, second, first_aliases, second_aliases):
             return record("R", field(first, "int", aliases=first_aliases), field("x", "int"),
