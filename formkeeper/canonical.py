@@ -1,19 +1,11 @@
 """Canonical JSON values and canonical texts of schemas."""
 
+from formkeeper.copies import copied
 from formkeeper.errors import InvalidSchema
 from formkeeper.jsontext import write_json
 
 # Far beyond what a schema has; it keeps the recursion small.
 MOST_LEVELS = 100
-
-
-def copied(value):
-    """Returns a copy of a JSON value that shares no list and no dict with it."""
-    if isinstance(value, list):
-        return [copied(item) for item in value]
-    if isinstance(value, dict):
-        return {key: copied(value[key]) for key in value}
-    return value
 
 
 class CanonicalWriter:

@@ -160,7 +160,8 @@ class Block:
             raise InvalidData(self.told_at)
 
 
-def decode_array(names, form, octets, at, room):
+def read_items(octets, at, read_item):
+    """Reads an array: `read_item` gives the item at a place, and the place behind it."""
     items = []
     while True:
         block = Block(octets, at)
@@ -168,12 +169,13 @@ def decode_array(names, form, octets, at, room):
         if block.many == 0:
             return items, at
         for _ in range(block.many):
-            item, at = decode_shape(names, form[1], octets, at, room)
+            item, at = read_item(at)
             items.append(item)
         block.check_end(at)
 
 
-def decode_map(names, form, octets, at, room):
+def read_pairs(octets, at, read_worth):
+    """Reads a map: `read_worth` gives the value at a place, and the place behind it."""
     pairs = {}
     while True:
         block = Block(octets, at)
@@ -184,7 +186,7 @@ def decode_map(names, form, octets, at, room):
             key, behind = read_string(octets, at)
             if key in pairs:
                 raise InvalidData(at)
-            pairs[key], at = decode_shape(names, form[1], octets, behind, room)
+            pairs[key], at = read_worth(behind)
         block.check_end(at)
 
 
@@ -232,9 +234,9 @@ def decode_shape(names, shape, octets, at, room):
     if room == 0:
         raise InvalidData(at)
     if kind == "array":
-        return decode_array(names, form, octets, at, room - 1)
+        return read_items(octets, at, lambda place: decode_shape(names, form[1], octets, place, room - 1))
     if kind == "map":
-        return decode_map(names, form, octets, at, room - 1)
+        return read_pairs(octets, at, lambda place: decode_shape(names, form[1], octets, place, room - 1))
     if kind == "union":
         return decode_union(names, form, octets, at, room - 1)
     return decode_record(names, form, octets, at, room - 1)

@@ -13,7 +13,7 @@ STATEMENTS = (
 )
 BUILTINS = set(
     "len range enumerate zip min max sum abs sorted reversed int str bool list tuple dict set isinstance ord repr "
-    "any all divmod ValueError KeyError NotImplemented".split()
+    "any all divmod super ValueError KeyError NotImplemented".split()
 )
 METHODS = set(
     "append clear copy count endswith extend find get index insert isalnum isalpha isdigit islower isspace isupper "
@@ -78,6 +78,11 @@ class LanguageTest(unittest.TestCase):
             self.assertNotIsInstance(node, ast.Div, place)
             if isinstance(node, ast.Constant):
                 self.assertNotIsInstance(node.value, (float, complex), place)
+
+    def test_l7_no_generator_expressions(self):
+        """They would have to stand in a list where a class has an `__eq__`."""
+        for place, node in self.nodes():
+            self.assertNotIsInstance(node, (ast.GeneratorExp, ast.Yield, ast.YieldFrom), place)
 
     def test_l8_builtins(self):
         for place, node in self.nodes():
