@@ -8,7 +8,7 @@ class Numbering:
     number; so it stands for a shape in a key, for which a shape itself may be nested too deep."""
 
     def __init__(self, schema):
-        self.names = schema.names
+        self.definitions = schema.names
         self.shapes = []
         self.numbers = {}
         self.inner = []
@@ -32,7 +32,7 @@ class Numbering:
 
     def form(self, number):
         """Returns the shape with a number, or its definition."""
-        return resolved(self.names, self.shapes[number])
+        return resolved(self.definitions, self.shapes[number])
 
     def parts(self, number):
         """Returns the numbers of the item, the branches or the fields of the shape with a number."""

@@ -230,6 +230,19 @@ class UnreadTest(FittingTest):
                                fixed[1])
             self.assert_unread(expected, writer, reader)
 
+    def test_how_a_branch_stands_to_the_least_octets(self):
+        """The same branch has the least octets and those that are not read: it is the value in it that decides."""
+        shape = union(("named", "F"), NULL)
+        inner = (("fixed", "F", 1, ()), record("S", field("s", shape)))
+        writer = schema_of(("named", "R"), record("R", field("a", union(("named", "S"))), field("b", shape)), *inner)
+        reader = schema_of(("named", "R"), writer.names["R"], ("fixed", "F", 2, ()), inner[1])
+        self.assert_unread([0, 0, 0, 2], writer, reader)
+        choices = (("choice", "C", ("A", "B"), None, ()), ("choice", "E", ("A", "B"), None, ()))
+        rows = record("R", field("a", union(("named", "C"))), field("b", ("named", "E")))
+        writer = schema_of(("named", "R"), rows, *choices)
+        others = (("choice", "C", ("B",), None, ()), ("choice", "E", ("A",), None, ()))
+        self.assert_unread([0, 0, 0], writer, schema_of(("named", "R"), rows, *others))
+
     def test_shapes_that_contain_themselves(self):
         node = record("L", field("next", union(NULL, ("named", "L"))), field("n", LONG))
         other = record("L", field("next", union(NULL, ("named", "L"))), field("n", INT))

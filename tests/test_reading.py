@@ -479,6 +479,14 @@ class PlacesTest(ReadingTest):
                 self.assert_fails(error_class, 64, writer, reader, [2] * 64)
                 self.assert_fails(error_class, 64, writer, reader, [2] * 64 + [128, 0])
 
+    def test_maps_inside_64_others(self):
+        writer, reader = INT, LONG
+        for _ in range(65):
+            writer, reader = ("map", writer), ("map", reader)
+        self.assert_fails(InvalidData, 128, schema_of(writer), schema_of(reader), [2, 0] * 64)
+        self.assert_fails(InvalidData, 128, schema_of(writer), schema_of(reader), [2, 0] * 65)
+        self.assert_fails(Truncated, 127, schema_of(writer), schema_of(reader), [2, 0] * 63 + [2])
+
     def test_a_record_inside_63_others(self):
         writer = schema_of(self.nested(("named", "R"), 63), record("R", field("x", INT)))
         for fields, error_class, place in (((field("y", INT),), Unreadable, 63), ((field("x", STRING),), Unreadable, 63)):
