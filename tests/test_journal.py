@@ -2,6 +2,7 @@
 
 import copy
 import itertools
+import math
 import random
 import unittest
 
@@ -407,10 +408,20 @@ class PowerTest(JournalTest):
             self.assertEqual(last + 1, copy.deepcopy(journal).append([1]))
         self.assertEqual(0, journal.torn())
 
-    def some_choices(self, chosen, count):
-        """Returns choices of each number of changes of names, each with the least, the most and some other octets."""
-        octets = [[], [5354228879] * 4] + [[chosen.randrange(40) for _ in range(4)] for _ in range(count)]
-        return [[stay] + each for stay in range(6) for each in octets]
+    def octets_left(self, disk, choices):
+        """Returns how many files and octets are left behind the loss of the power."""
+        lost = copy.deepcopy(disk)
+        lost.lose(choices)
+        return len(lost.names()), sum(len(lost.read(name)) for name in lost.names())
+
+    def all_choices(self, disk):
+        """Returns all choices that make a difference: each number of changes of names, each beginning of each file."""
+        most = math.lcm(*range(1, 41)) - 1
+        for stay in range(len(disk.changes) + 1):
+            many_files, least = self.octets_left(disk, [stay])
+            loose = [self.octets_left(disk, [stay] + [0] * at + [most])[1] - least for at in range(many_files)]
+            for octets in itertools.product(*[range(count + 1) for count in loose]):
+                yield [stay, *octets]
 
     CALLS = (
         [("append", [1]), ("sync", None), ("append", [2, 3]), ("append", []), ("compact", [7]), ("append", [4]),
@@ -420,35 +431,39 @@ class PowerTest(JournalTest):
     )
 
     def test_losing_the_power_behind_every_operation(self):
-        chosen = random.Random(73)
+        count = 0
         for calls in self.CALLS:
             for allowed in itertools.count():
                 disk = Disk()
                 disk.allow(allowed)
                 told, is_done = self.run_calls(disk, calls)
-                for choices in self.some_choices(chosen, 10):
+                for choices in self.all_choices(disk):
                     lost = copy.deepcopy(disk)
                     lost.lose(choices)
                     self.assert_right(told, lost, (allowed, choices))
+                    count += 1
                 if is_done:
                     break
-            self.assertGreater(allowed, 5)
+        self.assertGreater(count, 300)
 
     def test_losing_the_power_again_while_it_is_opened(self):
+        calls = [("append", [1]), ("compact", [7]), ("append", [4, 4]), ("sync", None), ("append", []), ("compact", [8])]
         chosen = random.Random(71)
-        calls = self.CALLS[0]
         for allowed in itertools.count():
             disk = Disk()
             disk.allow(allowed)
             told, is_done = self.run_calls(disk, calls)
-            for choices in self.some_choices(chosen, 1):
+            first = list(self.all_choices(disk))
+            for choices in chosen.sample(first, min(len(first), 6)):
                 for again in range(9):
                     lost = copy.deepcopy(disk)
                     lost.lose(choices)
                     lost.allow(again)
                     is_open = tried(Journal, lost)
-                    lost.lose([chosen.randrange(4), chosen.randrange(30), chosen.randrange(30), chosen.randrange(30)])
-                    self.assert_right(told, lost, (allowed, choices, again))
+                    for more in self.all_choices(lost):
+                        twice = copy.deepcopy(lost)
+                        twice.lose(more)
+                        self.assert_right(told, twice, (allowed, choices, again, more))
                     if is_open:
                         break
             if is_done:
