@@ -2,7 +2,6 @@
 
 import copy
 import itertools
-import math
 import random
 import unittest
 
@@ -10,72 +9,11 @@ from formkeeper.disk import Disk
 from formkeeper.errors import Damaged, PowerLost
 from formkeeper.journal import Journal
 from formkeeper.sums import sum_of
+from tests.disks import WatchedDisk, all_choices, disk_with, files_of, log_octets, snapshot_octets, tried, wide
 from tests.support import ProgramTest
 
 
-def wide(number, count):
-    """Returns a number in as many octets, the most significant one first."""
-    return [number >> 8 * at & 255 for at in reversed(range(count))]
-
-
-def log_octets(first, *records):
-    """Returns a log whose first record has this number (point 13.3)."""
-    octets = []
-    for number, record in enumerate(records, first):
-        octets += wide(len(record), 4) + wide(sum_of(wide(number, 8) + record), 4) + record
-    return octets
-
-
-def snapshot_octets(base, snapshot):
-    """Returns a snapshot file (point 13.4)."""
-    octets = wide(base, 8) + snapshot
-    return octets + wide(sum_of(octets), 4)
-
-
-class WatchedDisk(Disk):
-    """A disk that writes down its operations."""
-
-    def __init__(self):
-        super().__init__()
-        self.done = []
-
-    def append(self, name, octets):
-        super().append(name, octets)
-        self.done.append(("append", name, list(octets)))
-
-    def sync(self, name):
-        super().sync(name)
-        self.done.append(("sync", name))
-
-    def rename(self, name, new):
-        super().rename(name, new)
-        self.done.append(("rename", name, new))
-
-    def remove(self, name):
-        super().remove(name)
-        self.done.append(("remove", name))
-
-    def sync_names(self):
-        super().sync_names()
-        self.done.append(("sync names",))
-
-
-def disk_with(files, disk_class=Disk):
-    """Returns a disk that keeps these files."""
-    disk = disk_class()
-    for name, octets in files.items():
-        disk.append(name, octets)
-        disk.sync(name)
-    disk.sync_names()
-    if disk_class is WatchedDisk:
-        disk.done = []
-    return disk
-
-
 class JournalTest(ProgramTest):
-
-    def files(self, disk):
-        return {name: disk.read(name) for name in disk.names()}
 
     def assert_holds(self, journal, snapshot, base, records, torn=0):
         self.assert_gives(snapshot, journal.snapshot)
@@ -91,12 +29,12 @@ class JournalTest(ProgramTest):
         journal = Journal(disk)
         self.assert_holds(journal, snapshot, base, records, torn)
         self.assertEqual(operations, disk.done)
-        self.assertEqual(left, self.files(disk))
+        self.assertEqual(left, files_of(disk))
         again = Journal(disk)
         self.assert_holds(again, snapshot, base, records)
-        self.assertEqual(left, self.files(disk))
+        self.assertEqual(left, files_of(disk))
         disk.lose([])
-        self.assertEqual(left, self.files(disk))
+        self.assertEqual(left, files_of(disk))
         self.assert_holds(Journal(disk), snapshot, base, records)
 
 
@@ -154,7 +92,7 @@ class UsingTest(JournalTest):
             ("sync names",), ("rename", "tidy", "snap.1"), ("sync names",), ("remove", "log.0"), ("sync names",),
         ], disk.done)
         self.assert_holds(journal, [5, 6], 2, [])
-        self.assertEqual({"log.1": [], "snap.1": snapshot_octets(2, [5, 6])}, self.files(disk))
+        self.assertEqual({"log.1": [], "snap.1": snapshot_octets(2, [5, 6])}, files_of(disk))
         self.assertEqual([0] * 7 + [2, 5, 6] + wide(sum_of([0] * 7 + [2, 5, 6]), 4), disk.read("snap.1"))
         self.assert_gives(3, journal.append, [9])
         self.assertEqual(log_octets(3, [9]), disk.read("log.1"))
@@ -167,7 +105,7 @@ class UsingTest(JournalTest):
             ("sync names",),
         ], disk.done)
         self.assert_holds(journal, [], 3, [])
-        self.assertEqual({"log.2": [], "snap.2": snapshot_octets(3, [])}, self.files(disk))
+        self.assertEqual({"log.2": [], "snap.2": snapshot_octets(3, [])}, files_of(disk))
 
     def test_compacting_where_a_file_tidy_is(self):
         disk = WatchedDisk()
@@ -184,7 +122,7 @@ class UsingTest(JournalTest):
         journal = Journal(disk)
         journal.compact([])
         self.assert_holds(journal, [], 0, [])
-        self.assertEqual({"log.1": [], "snap.1": [0] * 8 + wide(sum_of([0] * 8), 4)}, self.files(disk))
+        self.assertEqual({"log.1": [], "snap.1": [0] * 8 + wide(sum_of([0] * 8), 4)}, files_of(disk))
         self.assert_gives(1, journal.append, [1])
         self.assert_holds(Journal(disk), [], 0, [[1]])
 
@@ -304,7 +242,7 @@ class OpeningTest(JournalTest):
             whole = max(count for count in range(5) if ends[count] <= length)
             disk = disk_with({"log.0": octets[:length]})
             self.assert_holds(Journal(disk), [], 0, records[:whole], length - ends[whole])
-            self.assertEqual({"log.0": octets[:ends[whole]]}, self.files(disk))
+            self.assertEqual({"log.0": octets[:ends[whole]]}, files_of(disk))
 
     def test_logs_that_are_changed_anywhere(self):
         """The record that was changed is the first one that is not read any more."""
@@ -358,15 +296,6 @@ class OpeningTest(JournalTest):
         self.assert_holds(Journal(disk), [7], 1, [])
 
 
-def tried(call, *arguments):
-    """Calls something; returns whether it returned (True), or the power was lost (False)."""
-    try:
-        call(*arguments)
-    except PowerLost:
-        return False
-    return True
-
-
 class PowerTest(JournalTest):
     """Point 13.9."""
 
@@ -408,21 +337,6 @@ class PowerTest(JournalTest):
             self.assertEqual(last + 1, copy.deepcopy(journal).append([1]))
         self.assertEqual(0, journal.torn())
 
-    def octets_left(self, disk, choices):
-        """Returns how many files and octets are left behind the loss of the power."""
-        lost = copy.deepcopy(disk)
-        lost.lose(choices)
-        return len(lost.names()), sum(len(lost.read(name)) for name in lost.names())
-
-    def all_choices(self, disk):
-        """Returns all choices that make a difference: each number of changes of names, each beginning of each file."""
-        most = math.lcm(*range(1, 41)) - 1
-        for stay in range(len(disk.changes) + 1):
-            many_files, least = self.octets_left(disk, [stay])
-            loose = [self.octets_left(disk, [stay] + [0] * at + [most])[1] - least for at in range(many_files)]
-            for octets in itertools.product(*[range(count + 1) for count in loose]):
-                yield [stay, *octets]
-
     CALLS = (
         [("append", [1]), ("sync", None), ("append", [2, 3]), ("append", []), ("compact", [7]), ("append", [4]),
          ("sync", None), ("append", [5]), ("compact", [8, 8]), ("append", [6])],
@@ -437,7 +351,7 @@ class PowerTest(JournalTest):
                 disk = Disk()
                 disk.allow(allowed)
                 told, is_done = self.run_calls(disk, calls)
-                for choices in self.all_choices(disk):
+                for choices in all_choices(disk):
                     lost = copy.deepcopy(disk)
                     lost.lose(choices)
                     self.assert_right(told, lost, (allowed, choices))
@@ -453,14 +367,14 @@ class PowerTest(JournalTest):
             disk = Disk()
             disk.allow(allowed)
             told, is_done = self.run_calls(disk, calls)
-            first = list(self.all_choices(disk))
+            first = list(all_choices(disk))
             for choices in chosen.sample(first, min(len(first), 6)):
                 for again in range(9):
                     lost = copy.deepcopy(disk)
                     lost.lose(choices)
                     lost.allow(again)
                     is_open = tried(Journal, lost)
-                    for more in self.all_choices(lost):
+                    for more in all_choices(lost):
                         twice = copy.deepcopy(lost)
                         twice.lose(more)
                         self.assert_right(told, twice, (allowed, choices, again, more))
