@@ -9,7 +9,7 @@ from formkeeper.values import is_integer
 LONGEST_SCHEMA = 100000
 LONGEST_NAME = 60
 MOST_REFERENCES = 40
-VERSION_END = 10 ** 15
+VERSION_END = 1000000000000000
 
 
 def write_pairs(pairs):
@@ -38,7 +38,7 @@ def read_pairs(octets):
 
 
 def is_name(value):
-    """Returns True if a JSON value is a text that may be the name of a client or a subject."""
+    """Returns True if a value is a text that may be the name of a client or a subject."""
     return isinstance(value, str) and 1 <= len(value) <= LONGEST_NAME
 
 

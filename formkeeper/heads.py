@@ -58,7 +58,7 @@ def read_answer_line(text):
     """Returns the status of the first line of an answer in a tuple, or None."""
     protocol, _, rest = text.partition(" ")
     status, space, _ = rest.partition(" ")
-    if protocol != PROTOCOL or space == "" or len(status) != 3 or not is_number(status, 3):
+    if protocol != PROTOCOL or space == "" or not is_number(status, 3):
         return None
     return (int(status),) if LEAST_STATUS <= int(status) <= GREATEST_STATUS else None
 

@@ -86,7 +86,7 @@ def unescape(text):
 def read_name(text):
     """Returns the subject or the client that is escaped so, or None if none is."""
     name = unescape(text)
-    return name if name is not None and is_name(name) else None
+    return name if is_name(name) else None
 
 
 def read_number_from_1(text, most_digits):

@@ -21,6 +21,8 @@ def with_tuples(value):
     """Returns a value with tuples in the place of lists."""
     if isinstance(value, list):
         return tuple([with_tuples(item) for item in value])
+    if isinstance(value, dict):
+        return {key: with_tuples(value[key]) for key in value}
     return value
 
 

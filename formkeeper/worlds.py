@@ -10,7 +10,8 @@ from formkeeper.witness import Witness
 
 
 class World:
-    """A world. `may_start` tells whether the disk has lost its power behind the last start."""
+    """A world. `may_start` tells whether the disk has lost its power behind the last start; then the
+    keeper is down."""
 
     def __init__(self, names, *, limit=100):
         self.limit = limit
@@ -51,7 +52,7 @@ class World:
         self.witness.take(self.keeper)
 
     def start_again(self):
-        if self.keeper is not None or not self.may_start:
+        if not self.may_start:
             return False
         self.may_start = False
         try:

@@ -309,10 +309,11 @@ class KeptSchemasTest(ClientsTest):
         for answer in (NO_SCHEMA, ("done",), ("done", "x", ()), ("done", "x", (), "y", "z"), ("refused", "a", "b", "c")):
             self.keep(1, answer)
             self.assertIsNone(self.client.whole(1))
-        self.client.add(("version", "log", 1))
-        self.sent()
-        self.arrive(octets_of(("done", "x", (), "y")))
-        self.assertIsNone(self.client.whole(1))
+        for command in (("version", "log", 1), SUBJECTS, ("mode", None)):
+            self.client.add(command)
+            self.sent()
+            self.arrive(octets_of(("done", "x", (), "y")))
+            self.assertIsNone(self.client.whole(1))
         self.keep()
         self.assertEqual("whole", self.client.whole(1))
 
@@ -377,6 +378,8 @@ class WrongAnswersTest(ClientsTest):
         ):
             for status in (200, 400):
                 self.assert_leaves(self.answer(status, text))
+        for text, status in (('["x","old"]', 409), ('["","no subject"]', 404), ('[null,"x"]', 400), ('["done ","x"]', 400)):
+            self.assert_leaves(self.answer(status, text))
 
     def test_headers_and_blanks_are_not_looked_at(self):
         self.client.add(INT)

@@ -280,6 +280,31 @@ class FaultsTest(HttpTest):
         self.assert_fault(3999, "request", [65] * 3999 + [10])
         self.assert_fault(0, "request", [65] * 3998 + [13, 10])
 
+    def test_lines_that_are_too_long_in_pieces(self):
+        good = octets_of("GET / HTTP/1.1\n")
+        for begin in (0, len(good)):
+            for first in (1, 2, 1999, 2000, 3998, 3999, 4000):
+                for more in (1, 2, 1999, 2001, 4000, 9000):
+                    reader = Reader("request")
+                    reader.feed(good[:begin])
+                    self.assert_gives([("fault", begin)] if first == 4000 else [], reader.feed, [65] * first)
+                    events = [("fault", begin)] if first < 4000 <= first + more else []
+                    self.assert_gives(events, reader.feed, [65] * more + ([10] if events else []))
+                    self.assert_gives([] if first + more >= 4000 else [("cut", begin + first + more)], reader.finish)
+
+    def test_every_character_in_a_method_and_in_the_name_of_a_header(self):
+        for code in range(33, 127):
+            character = chr(code)
+            if code == 37:
+                continue
+            octets = octets_of(f"A{character} / HTTP/1.1\na{character}: b\n\n")
+            if not character.isupper():
+                self.assert_fault(0, "request", octets_of(f"A{character} / HTTP/1.1\n"))
+            else:
+                self.assert_events([("message", Request("A" + character, "/", (("a" + character.lower(), "b"),), []))], "request", octets)
+            if not character.isalnum() and character not in "-:":
+                self.assert_fault(16, "request", octets_of(f"GET / HTTP/1.1\na{character}: b\n"))
+
     def test_octets_that_stand_in_no_line(self):
         for octet in list(range(10)) + list(range(11, 32)) + [37] + list(range(127, 256, 16)) + [127, 255]:
             for at in (0, 1, 7):

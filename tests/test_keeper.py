@@ -275,6 +275,7 @@ class CompactingTest(KeeperTest):
         self.assert_alike(Keeper(disk), registry_behind(self.CHANGES))
         disk = disk_with({"snap.1": snapshot_octets(0, []), "log.1": log_octets(1, record(*self.CHANGES[0]))})
         self.assert_alike(Keeper(disk), registry_behind(self.CHANGES[:1]))
+        self.assert_alike(Keeper(disk_with({"snap.1": snapshot_octets(0, state)})), registry_behind(self.CHANGES[:3]))
 
     def test_damaged_snapshots(self):
         state = write_state(registry_behind(self.CHANGES[:3]))

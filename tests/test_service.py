@@ -392,7 +392,8 @@ class AnswersTest(ServiceTest):
             self.assert_gives(answer, told_answer, message)
 
     def test_what_an_answer_tells(self):
-        for text, answer in ((' [ "done" , [ 1 , [ ] ] ]\n', ("done", (1, ()))), ("[]", ()), ("1", 1), ('["x"]', ("x",))):
+        for text, answer in ((' [ "done" , [ 1 , [ ] ] ]\n', ("done", (1, ()))), ("[]", ()), ("1", 1), ('["x"]', ("x",)),
+                             ('{"a":[1,{"b":[]}]}', {"a": (1, {"b": ()})}), ('["done",{"a":[[]]}]', ("done", {"a": ((),)}))):
             self.assert_gives(answer, told_answer, Answer(599, (), raw(text)))
 
     def test_the_octets_of_an_answer(self):
