@@ -2,7 +2,6 @@
 
 from formkeeper.canonical import canonical_text
 from formkeeper.catalog import Catalog, NumberedSchema
-from formkeeper.copies import copied
 from formkeeper.errors import InvalidJson, InvalidSchema
 from formkeeper.jsontext import parse_json
 from formkeeper.modes import FIRST_MODE, directions_of, is_mode, looks_at_all, misfit
@@ -49,7 +48,7 @@ class Registry:
     def schema(self, number):
         """Returns the Schema with a number, or None. It is the caller's own."""
         row = self.catalog.row(number)
-        return None if row is None else Schema(row.parsed.root, copied(row.parsed.names))
+        return None if row is None else Schema(row.parsed.root, row.parsed.names)
 
     def change(self, client, request, command):
         """Returns the answer to a command that changes."""

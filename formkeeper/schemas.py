@@ -1,6 +1,7 @@
 """Schemas, and reading them from JSON values."""
 
 from formkeeper.canonical import json_within
+from formkeeper.copies import copied
 from formkeeper.errors import InvalidData, InvalidSchema
 from formkeeper.jsontext import DEEPEST, depth_of, write_json
 from formkeeper.shapes import DEFINITIONS, PLAIN, names_below, names_in
@@ -23,7 +24,8 @@ class Schema:
 
     def __init__(self, root, names):
         self.root = root
-        self.names = dict(names)
+        # The defaults in definitions hold lists and dicts, which the caller may change.
+        self.names = copied(names)
 
     def __eq__(self, other):
         return isinstance(other, Schema) and self.root == other.root and self.names == other.names
@@ -245,4 +247,4 @@ def parse_schema(value, known=None):
 
 def definitions_of(schema):
     """Returns a new dict with the definitions of a Schema."""
-    return dict(schema.names)
+    return copied(schema.names)

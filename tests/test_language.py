@@ -106,6 +106,32 @@ class LanguageTest(unittest.TestCase):
             for octet in path.read_bytes():
                 self.assertTrue(octet == 10 or 32 <= octet <= 126, path.name)
 
+    def test_l15_no_variable_has_the_name_of_an_import_or_a_class(self):
+        for path in FILES:
+            tree = tree_of(path)
+            taken = [name for node in tree.body if isinstance(node, (ast.ImportFrom, ast.ClassDef)) for name in bound_names(node)]
+            self.assertEqual(len(taken), len(set(taken)), path.name)
+            for function in [node for node in ast.walk(tree) if isinstance(node, (ast.FunctionDef, ast.Lambda))]:
+                names = {name for node in ast.walk(function) for name in bound_names(node)} - {getattr(function, "name", None)}
+                self.assertEqual(set(), names & set(taken), path.name)
+
+    def test_l15_names_are_bound_once_in_a_file(self):
+        for path in FILES:
+            names = [name for node in tree_of(path).body for name in bound_names(node)]
+            names += [target.id for node in tree_of(path).body if isinstance(node, ast.Assign) for target in node.targets]
+            self.assertEqual(len(names), len(set(names)), path.name)
+
+    def test_l16_imports_name_the_file_that_defines_the_name(self):
+        defined = {}
+        for path in FILES:
+            names = [name for node in tree_of(path).body if not isinstance(node, ast.ImportFrom) for name in bound_names(node)]
+            names += [target.id for node in tree_of(path).body if isinstance(node, ast.Assign) for target in node.targets]
+            defined["formkeeper." + path.stem] = names
+        for place, node in self.nodes():
+            if isinstance(node, ast.ImportFrom):
+                for alias in node.names:
+                    self.assertIn(alias.name, defined[node.module], place)
+
     def test_l16_no_two_files_import_from_each_other(self):
         below = {}
         for path in FILES:
@@ -120,6 +146,22 @@ class LanguageTest(unittest.TestCase):
     def test_l17_names_that_are_not_used(self):
         for place, node in self.nodes():
             self.assertFalse(set(bound_names(node)) & UNUSED_NAMES, place)
+
+    def test_l18_no_name_is_a_method_and_an_attribute_in_one_class(self):
+        assigned = set()
+        read = {}
+        for place, node in self.nodes():
+            if isinstance(node, ast.ClassDef):
+                methods = [each.name for each in node.body if isinstance(each, ast.FunctionDef)]
+                self.assertEqual(len(methods), len(set(methods)), place)
+                attributes = {each.attr for each in ast.walk(node) if isinstance(each, ast.Attribute)
+                              and isinstance(each.ctx, ast.Store) and getattr(each.value, "id", "") == "self"}
+                self.assertEqual(set(), attributes & set(methods), place)
+                assigned |= attributes
+            if isinstance(node, ast.Attribute) and isinstance(node.ctx, ast.Load):
+                read[node.attr] = place
+        unknown = set(read) - assigned - self.own_methods() - METHODS - {"__name__", "__class__", "__init__"}
+        self.assertEqual(set(), unknown)
 
     def test_l20_is_stands_beside_none_true_and_false_only(self):
         for place, node in self.nodes():
@@ -141,6 +183,7 @@ class LanguageTest(unittest.TestCase):
         for place, node in self.nodes():
             if isinstance(node, ast.Constant) and isinstance(node.value, str):
                 self.assertNotIn("%", node.value, place)
+                self.assertFalse(node.value.endswith(("._", ".__")), place)
 
 
 if __name__ == "__main__":

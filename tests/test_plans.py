@@ -87,6 +87,27 @@ class PlansTest(ProgramTest):
         self.assert_gives((expected, len(octets)), read_as, writer, reader, octets)
         self.assertLess(len(plan.steps), 40)
 
+    def test_values_share_nothing_of_a_default(self):
+        """Each value that is read has lists and dicts of its own, at all depths."""
+        reader = parse_schema({"kind": "record", "name": "P", "fields": [
+            {"name": "a", "kind": {"kind": "array", "items": {"kind": "array", "items": "bytes"}}, "default": [[[1]]]},
+            {"name": "b", "kind": {"kind": "map", "values": {"kind": "map", "values": "bytes"}}, "default": {"x": {"y": [2]}}},
+            {"name": "c", "kind": [{"kind": "array", "items": "bytes"}], "default": [[3]]}]})
+        writer = Schema(("named", "P"), {"P": ("record", "P", (), ())})
+        plan = make_plan(writer, reader)
+        for read in (lambda: run_plan(plan, [])[0], lambda: read_as(writer, reader, [])[0]):
+            for _ in range(2):
+                value = read()
+                self.assertEqual(([[[1]]], {"x": {"y": [2]}}, (0, [[3]])), value)
+                value[0][0][0].append(9)
+                value[0][0].append([])
+                value[0].append([])
+                value[1]["x"]["y"].append(9)
+                value[1]["x"]["z"] = []
+                value[1]["z"] = {}
+                value[2][1][0].append(9)
+                value[2][1].append([])
+
     def test_running_does_not_look_at_the_schemas(self):
         writer, reader = parse_schema(NODE), parse_schema(OTHER)
         plan = make_plan(writer, reader)

@@ -316,6 +316,25 @@ class SchemaClassTest(SchemaTest):
         self.assertEqual(["F", "R"], sorted(definitions_of(schema)))
         self.assertEqual({}, definitions_of(parse_schema("int")))
 
+    def test_defaults_may_be_changed_by_the_caller(self):
+        """Those of what is passed, at all depths, and those of what is returned."""
+        def default_of(names):
+            return names["R"][2][0][2][0]
+
+        kind = {"kind": "array", "items": {"kind": "map", "values": "bytes"}}
+        value = record("R", {"name": "a", "kind": kind, "default": [{"x": [1]}]})
+        first = parse_schema(value)
+        self.assertEqual([{"x": [1]}], default_of(first.names))
+        known, names = definitions_of(first), definitions_of(first)
+        second, third = parse_schema("R", known), Schema(("named", "R"), names)
+        for default in (value["fields"][0]["default"], default_of(known), default_of(names), default_of(definitions_of(first)),
+                        canonical_json(first)["fields"][0]["default"]):
+            default[0]["x"].append(2)
+            default[0]["y"] = []
+            default.append({})
+            for schema in (first, second, third):
+                self.assertEqual([{"x": [1]}], default_of(schema.names))
+
     def test_equality(self):
         def made(size):
             return Schema(("named", "F"), {"F": ("fixed", "F", size, ())})
